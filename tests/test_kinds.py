@@ -1,0 +1,35 @@
+import unittest
+
+from tests.values import NUMBERS, ODD
+from whichhouse.kinds import is_house, is_integer, is_mark, is_word
+
+TEXTS = ("", " ", "a", "l", "m", "A", "aa", "1", "?", "\n")
+
+
+class KindsTest(unittest.TestCase):
+    def check(self, asked, values, wanted):
+        for value in values:
+            with self.subTest(repr(value)[:40]):
+                self.assertIs(asked(value), wanted)
+
+    def test_integers(self):
+        self.check(is_integer, NUMBERS, True)
+        self.check(is_integer, ODD + TEXTS, False)
+
+    def test_houses(self):
+        self.check(lambda value: is_house(value, 3), (0, 1, 2), True)
+        self.check(lambda value: is_house(value, 3), (-1, 3, 10 ** 39, -(10 ** 39)) + ODD + TEXTS, False)
+
+    def test_marks(self):
+        self.check(is_mark, tuple("abcdefghijkl"), True)
+        self.check(is_mark, ("", " ", "m", "A", "L", "`", "ab", "aa", "abcdefghijkl", "?", "\n", "a\n") + ODD, False)
+        self.check(is_mark, NUMBERS, False)
+
+    def test_words(self):
+        self.check(is_word, ("a", "l", "abcdefghijkl", "lkjihgfedcba", "a" * 200, "kl" * 100), True)
+        self.check(is_word, ("", "a" * 201, "m", "abm", "ma", "A", "a b", " a", "a\n", "a" * 199 + "m"), False)
+        self.check(is_word, ODD + NUMBERS, False)
+
+
+if __name__ == "__main__":
+    unittest.main()

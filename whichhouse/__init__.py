@@ -1,0 +1,1 @@
+"""Whichhouse: marks on ties by which walks tell where they end."""
