@@ -1,7 +1,7 @@
 import unittest
 
 from tests.values import NUMBERS, ODD
-from whichhouse.kinds import is_house, is_integer, is_mark, is_word
+from whichhouse.kinds import is_count, is_house, is_integer, is_letters, is_mark, is_pair, is_want, is_word
 
 TEXTS = ("", " ", "a", "l", "m", "A", "aa", "1", "?", "\n")
 
@@ -19,6 +19,23 @@ class KindsTest(unittest.TestCase):
     def test_houses(self):
         self.check(lambda value: is_house(value, 3), (0, 1, 2), True)
         self.check(lambda value: is_house(value, 3), (-1, 3, 10 ** 39, -(10 ** 39)) + ODD + TEXTS, False)
+
+    def test_counts(self):
+        self.check(is_count, (0, 1, 100, 10 ** 39), True)
+        self.check(is_count, (-1, -(10 ** 39)) + ODD + TEXTS, False)
+
+    def test_pairs(self):
+        self.check(lambda value: is_pair(value, 3), ((0, 0), (0, 2), (2, 1)), True)
+        self.check(lambda value: is_pair(value, 3), ((0, 3), (-1, 0), (0,), (0, 1, 2), [0, 1], (True, 0)), False)
+        self.check(lambda value: is_pair(value, 3), ODD + NUMBERS + TEXTS, False)
+
+    def test_letters(self):
+        self.check(is_letters, ("a", "l", "ab", "al", "bdk", "abcdefghijkl"), True)
+        self.check(is_letters, ("", "aa", "ba", "abb", "m", "am", "A", " ", "a b", "abcdefghijklm") + ODD + NUMBERS, False)
+
+    def test_wants(self):
+        self.check(is_want, ("code", "hand", "back", "behind"), True)
+        self.check(is_want, ("", "c", "codes", "Code", " hand", "has") + ODD + NUMBERS, False)
 
     def test_marks(self):
         self.check(is_mark, tuple("abcdefghijkl"), True)

@@ -3,6 +3,7 @@
 import itertools
 import unittest
 
+from tests.cases import Case
 from tests.test_web_texts import ALL_TIED, STAR, TEN_IN_A_ROW
 from tests.values import NUMBERS, ODD, Stranger
 from whichhouse.errors import InvalidHouse, InvalidMark, InvalidText, InvalidWord
@@ -35,15 +36,6 @@ def walked(text, house, word):
     return house
 
 
-class WebTest(unittest.TestCase):
-    def raises(self, error, given, action):
-        with self.subTest(repr(given)[:60], error=error.__name__):
-            with self.assertRaises(error) as caught:
-                action()
-            self.assertIs(type(caught.exception), error)
-            self.assertIs(caught.exception.given, given)
-
-
 class ExampleTest(unittest.TestCase):
     def test_the_examples_of_the_document(self):
         turning, path = Web("0 a 1 b\n1 a 2 b\n2 a 0 b"), Web("2 a 1 b\n0 a 1 a")
@@ -56,7 +48,7 @@ class ExampleTest(unittest.TestCase):
         ])
 
 
-class PropertiesTest(WebTest):
+class PropertiesTest(Case):
     def test_text_is_as_passed(self):
         for text in TEXTS:
             self.assertEqual(Web(text).text, text)
@@ -117,7 +109,7 @@ class PropertiesTest(WebTest):
         self.assertEqual(Web.__module__, "whichhouse.webs")
 
 
-class AtTest(WebTest):
+class AtTest(Case):
     def test_the_marks_of_each_house_in_order(self):
         self.assertEqual(Web("0 c 1 b\n0 a 2 a\n0 b 3 l").at(0), "abc")
         for text in TEXTS:
@@ -137,7 +129,7 @@ class AtTest(WebTest):
         self.raises(InvalidHouse, 10, lambda: ten.at(10))
 
 
-class GoTest(WebTest):
+class GoTest(Case):
     def test_all_short_words_of_many_webs(self):
         for text in TEXTS:
             web = Web(text)
@@ -201,7 +193,7 @@ class GoTest(WebTest):
                 self.raises(InvalidHouse, house, lambda: web.go(word=word, house=house))
 
 
-class ChangedTest(WebTest):
+class ChangedTest(Case):
     def test_each_change_of_many_webs(self):
         for text in (TURNING, PATH, FOUR, STAR, "0 a 1 a", "0 b 1 a\n0 a 2 a"):
             web = Web(text)
@@ -294,7 +286,7 @@ class ChangedTest(WebTest):
             self.assertEqual([web.text, web.plain, web.marks, web.at(1)], [PATH, "0 a 1 a\n1 b 2 a", "ab", "ab"])
 
 
-class EqualityTest(WebTest):
+class EqualityTest(Case):
     def test_equal_just_if_the_plain_texts_are(self):
         for one in TEXTS:
             for two in TEXTS:

@@ -2,15 +2,27 @@
 
 from whichhouse.limits import MARKS, MOST_WORD
 
+WANTS = ("code", "hand", "back", "behind")
+
 
 def is_integer(value):
     """Whether it is an integer: True and False are none."""
     return isinstance(value, int) and not isinstance(value, bool)
 
 
+def is_count(value):
+    """Whether it is an integer from 0 on."""
+    return is_integer(value) and value >= 0
+
+
 def is_house(value, houses):
     """Whether it is a house of a web with so many houses."""
     return is_integer(value) and 0 <= value < houses
+
+
+def is_pair(value, houses):
+    """Whether it is a pair of houses of a web with so many houses."""
+    return isinstance(value, tuple) and len(value) == 2 and all([is_house(house, houses) for house in value])
 
 
 def is_mark(value):
@@ -23,3 +35,16 @@ def is_word(value):
     if not isinstance(value, str) or not 1 <= len(value) <= MOST_WORD:
         return False
     return all([is_mark(letter) for letter in value])
+
+
+def is_letters(value):
+    """Whether it is an ascending string of one or more letters that may be marks."""
+    if not isinstance(value, str) or not value:
+        return False
+    # What stands in the order of MARKS, each letter once, is what is left of MARKS without the others.
+    return value == "".join([mark for mark in MARKS if mark in value])
+
+
+def is_want(value):
+    """Whether it is one of the words for what a web may be wanted to have."""
+    return isinstance(value, str) and value in WANTS
