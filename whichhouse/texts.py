@@ -6,11 +6,18 @@ A tie is a quadruple (house, mark, other house, its mark), the lesser house ahea
 from whichhouse.kinds import is_mark
 from whichhouse.limits import MOST_HOUSES
 
+UNREAD = "?"
+
 
 def read_ties(text):
     """The ascending list of the ties of a text, None if it is no text of a web."""
-    if not isinstance(text, str):
+    if not isinstance(text, str) or UNREAD in text:
         return None
+    return read_torn(text)
+
+
+def read_torn(text):
+    """The ascending list of the ties of a text in which marks may be unread, None if it is none of a web."""
     ties = []
     for line in text.split("\n"):
         tie = read_line(line)
@@ -31,11 +38,16 @@ def read_line(line):
     mark, back = parts[1], parts[3]
     if house is None or other is None or house == other:
         return None
-    if not is_mark(mark) or not is_mark(back):
+    if not may_be_mark(mark) or not may_be_mark(back):
         return None
     if house < other:
         return (house, mark, other, back)
     return (other, back, house, mark)
+
+
+def may_be_mark(part):
+    """Whether a part of a line writes a mark, or one that is unread."""
+    return is_mark(part) or part == UNREAD
 
 
 def read_house(part):
@@ -47,15 +59,16 @@ def read_house(part):
 
 
 def are_apart(ties):
-    """Whether no houses are tied twice, and no house has a mark twice."""
+    """Whether no houses are tied twice, and no house has a mark twice that is read."""
     pairs = {}
     ends = {}
     for low, mark, high, back in ties:
         if (low, high) in pairs or (low, mark) in ends or (high, back) in ends:
             return False
         pairs[(low, high)] = True
-        ends[(low, mark)] = True
-        ends[(high, back)] = True
+        for house, letter in ((low, mark), (high, back)):
+            if letter != UNREAD:
+                ends[(house, letter)] = True
     return True
 
 
