@@ -7,9 +7,9 @@ import unittest
 from tests.cases import Case
 from tests.counting import FOUR, PATH, TURNING, all_tied, ring, star
 from tests.values import NUMBERS, ODD, Stranger
-from whichhouse import backwards, codes, ends, handing, mending, unread, walks
-from whichhouse.errors import InvalidCount, InvalidLetters, InvalidMark, InvalidPair, InvalidText, InvalidWant
-from whichhouse.errors import InvalidWord, NoAnswer, NoCode, NotAWeb, TooMany, WrongValue
+from whichhouse import backwards, codes, ends, handing, making, mending, unread, visits, walks
+from whichhouse.errors import InvalidCount, InvalidHouse, InvalidLetters, InvalidMark, InvalidPair, InvalidText
+from whichhouse.errors import InvalidWant, InvalidWord, NoAnswer, NoCode, NotAWeb, TooMany, WrongValue
 from whichhouse.webs import Web
 
 WEB = (PATH, NotAWeb, ODD + NUMBERS + (
@@ -32,6 +32,8 @@ MARK = ("a", InvalidMark, ODD + NUMBERS + (
     "", " ", "m", "A", "aa", "ab", "abcdefghijkl", "a ", "?", "\n", ("a",), ["a"], PATH,
 ))
 COUNT = (0, InvalidCount, ODD + tuple(n for n in NUMBERS if n < 0) + ("", "0", "a", (0,), [0], PATH))
+HOUSE = (1, InvalidHouse, ODD + tuple(n for n in NUMBERS if n not in (0, 1, 2)) + (3, "0", "", (0,), [0], PATH))
+ROUND = (3, InvalidCount, ODD + tuple(n for n in NUMBERS if not 3 <= n <= 10) + (2, 11, "3", "", (3,), [3], PATH))
 TEXT = ("0 a 1 ?", InvalidText, ODD + NUMBERS + ("", "a", "0 a 1", "? a 1 a", "0 a 1 m", ["0 a 1 ?"], PATH))
 LETTERS = ("ab", InvalidLetters, ODD + NUMBERS + ("", "ba", "aa", "m", "a b", "A", "?", ("a",), ["a"], PATH))
 
@@ -64,6 +66,12 @@ SIGNATURES = (
     (mending, "harms", (("web", WEB), ("want", WANT))),
     (unread, "readings", (("text", TEXT), ("letters", LETTERS))),
     (unread, "sure", (("text", TEXT), ("letters", LETTERS), ("want", WANT))),
+    (making, "ring", (("houses", ROUND),)),
+    (making, "board", (("wide", ROUND), ("high", ROUND))),
+    (making, "numbered", (("web", WEB),)),
+    (making, "same_ties", (("web", WEB), ("other", WEB))),
+    (visits, "visit", (("web", WEB), ("house", HOUSE))),
+    (visits, "steps_without", (("web", WEB),)),
 )
 # Webs for which each function raises what is looked for last, if it does.
 LAST = {"code_of": FOUR, "handed": FOUR, "reading_back": PATH, "fewest_changes": ring(7), "mend": ring(7)}

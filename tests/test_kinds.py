@@ -1,7 +1,8 @@
 import unittest
 
 from tests.values import NUMBERS, ODD
-from whichhouse.kinds import is_count, is_house, is_integer, is_letters, is_mark, is_pair, is_want, is_word
+from whichhouse.kinds import is_count, is_house, is_index, is_integer, is_letters, is_mark, is_name, is_pair, is_want
+from whichhouse.kinds import is_word
 
 TEXTS = ("", " ", "a", "l", "m", "A", "aa", "1", "?", "\n")
 
@@ -23,6 +24,16 @@ class KindsTest(unittest.TestCase):
     def test_counts(self):
         self.check(is_count, (0, 1, 100, 10 ** 39), True)
         self.check(is_count, (-1, -(10 ** 39)) + ODD + TEXTS, False)
+
+    def test_indexes(self):
+        self.check(lambda value: is_index(value, 2), (0, 1), True)
+        self.check(lambda value: is_index(value, 2), (-1, 2, 10 ** 39) + ODD + TEXTS, False)
+        self.check(lambda value: is_index(value, 0), NUMBERS + ODD + TEXTS, False)
+
+    def test_names(self):
+        self.check(is_name, ("a", "z", "mn", "abcdefgh", "stuvwxyz", "aaaaaaaa", "drop", "undo"), True)
+        self.check(is_name, ("", "abcdefghi", "A", "aB", "`", "{", "a b", " a", "a\n", "a1", "a_", "="), False)
+        self.check(is_name, ODD + NUMBERS, False)
 
     def test_pairs(self):
         self.check(lambda value: is_pair(value, 3), ((0, 0), (0, 2), (2, 1)), True)

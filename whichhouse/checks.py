@@ -1,7 +1,8 @@
 """What the functions ask of their arguments: each check raises the error of its kind."""
 
-from whichhouse.errors import InvalidCount, InvalidLetters, InvalidMark, InvalidPair, InvalidWant, InvalidWord, NotAWeb
-from whichhouse.kinds import is_count, is_letters, is_mark, is_pair, is_want, is_word
+from whichhouse.errors import InvalidCount, InvalidHouse, InvalidLetters, InvalidMark, InvalidPair, InvalidWant
+from whichhouse.errors import InvalidWord, NotAWeb
+from whichhouse.kinds import is_count, is_house, is_letters, is_mark, is_pair, is_want, is_word
 from whichhouse.webs import Web
 
 
@@ -21,6 +22,12 @@ def check_word(word):
     """Raises InvalidWord for what is no word."""
     if not is_word(word):
         raise InvalidWord(word)
+
+
+def check_house(web, house):
+    """Raises InvalidHouse for what is no house of the web."""
+    if not is_house(house, web.houses):
+        raise InvalidHouse(house)
 
 
 def check_pair(web, pair):

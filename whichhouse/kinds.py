@@ -3,6 +3,8 @@
 from whichhouse.limits import MARKS, MOST_WORD
 
 WANTS = ("code", "hand", "back", "behind")
+LETTERS = "abcdefghijklmnopqrstuvwxyz"
+MOST_NAME = 8
 
 
 def is_integer(value):
@@ -15,9 +17,14 @@ def is_count(value):
     return is_integer(value) and value >= 0
 
 
+def is_index(value, many):
+    """Whether it is the index of one of so many things."""
+    return is_count(value) and value < many
+
+
 def is_house(value, houses):
     """Whether it is a house of a web with so many houses."""
-    return is_integer(value) and 0 <= value < houses
+    return is_index(value, houses)
 
 
 def is_pair(value, houses):
@@ -48,3 +55,10 @@ def is_letters(value):
 def is_want(value):
     """Whether it is one of the words for what a web may be wanted to have."""
     return isinstance(value, str) and value in WANTS
+
+
+def is_name(value):
+    """Whether it is a name for a web of a book."""
+    if not isinstance(value, str) or not 1 <= len(value) <= MOST_NAME:
+        return False
+    return all([letter in LETTERS for letter in value])

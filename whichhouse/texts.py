@@ -40,6 +40,11 @@ def read_line(line):
         return None
     if not may_be_mark(mark) or not may_be_mark(back):
         return None
+    return tie_between(house, mark, other, back)
+
+
+def tie_between(house, mark, other, back):
+    """The tie of two houses in any order, each with its mark."""
     if house < other:
         return (house, mark, other, back)
     return (other, back, house, mark)
@@ -52,9 +57,14 @@ def may_be_mark(part):
 
 def read_house(part):
     """The integer that a part of a line writes, None if it writes no house."""
-    for house in range(MOST_HOUSES):
-        if part == str(house):
-            return house
+    return read_number(part, MOST_HOUSES - 1)
+
+
+def read_number(part, most):
+    """The integer from 0 up to the greatest one that a part of a line writes, None if it writes none."""
+    for number in range(most + 1):
+        if part == str(number):
+            return number
     return None
 
 
