@@ -7,7 +7,7 @@ import unittest
 from tests.cases import Case
 from tests.counting import FOUR, PATH, TURNING, all_tied, ring, star
 from tests.values import NUMBERS, ODD, Stranger
-from whichhouse import backwards, codes, ends, handing, making, mending, unread, visits, walks
+from whichhouse import backwards, certificates, codes, ends, handing, making, mending, unread, visits, walks
 from whichhouse.errors import InvalidCount, InvalidHouse, InvalidLetters, InvalidMark, InvalidPair, InvalidText
 from whichhouse.errors import InvalidWant, InvalidWord, NoAnswer, NoCode, NotAWeb, TooMany, WrongValue
 from whichhouse.webs import Web
@@ -72,6 +72,7 @@ SIGNATURES = (
     (making, "same_ties", (("web", WEB), ("other", WEB))),
     (visits, "visit", (("web", WEB), ("house", HOUSE))),
     (visits, "steps_without", (("web", WEB),)),
+    (certificates, "certify", (("web", WEB), ("want", WANT))),
 )
 # Webs for which each function raises what is looked for last, if it does.
 LAST = {"code_of": FOUR, "handed": FOUR, "reading_back": PATH, "fewest_changes": ring(7), "mend": ring(7)}

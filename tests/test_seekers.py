@@ -224,7 +224,8 @@ class WrongTest(Case):
         self.assertIsNone(seeker.walk(word="a"))
         self.assertIsNone(seeker.see(marks="ab"))
         self.assertEqual(seeker.tried(action=lambda one: one.now), (1,))
-        for name, wanted in (("walk", ["word"]), ("see", ["marks"]), ("undo", []), ("trial", []), ("tried", ["action"])):
+        for name, wanted in (("walk", ["word"]), ("see", ["marks"]), ("undo", []), ("trial", []),
+                             ("tried", ["action"])):
             self.assertEqual(list(inspect.signature(getattr(seeker, name)).parameters), wanted)
             self.assertIn(name, vars(Seeker))
         for name in ("now", "began", "changes"):

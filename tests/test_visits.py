@@ -14,7 +14,7 @@ from whichhouse.webs import Web
 
 class VisitTest(Case):
     def check(self, web):
-        """Whether the word from each house is as long as it has to be, comes to all houses and ends at its beginning."""
+        """Whether the word from each house is of the due length, comes to all houses and ends at its beginning."""
         steps = steps_of(web)
         for house in range(web.houses):
             word = visit(web, house)

@@ -1,7 +1,7 @@
 """Back codes, which tell of words that end together whether they began together."""
 
 from whichhouse.checks import check_want, check_web
-from whichhouse.links import bound_behind, bound_table, linked_back, linked_table
+from whichhouse.links import bound_behind, linked_back, wanted_table
 from whichhouse.webs import doors_of
 
 
@@ -45,11 +45,4 @@ def has_want(web, want):
     """Whether the web has what is wanted."""
     check_web(web)
     check_want(want)
-    doors = doors_of(web.ties)
-    if want == "code":
-        return linked_table(doors) is not None
-    if want == "hand":
-        return bound_table(doors) is not None
-    if want == "back":
-        return linked_back(doors) is not None
-    return bound_behind(doors) is not None
+    return wanted_table(doors_of(web.ties), want) is not None

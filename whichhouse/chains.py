@@ -1,14 +1,22 @@
-"""Chains of pairs, each of which is led by one word together with the next one."""
+"""Chains of pairs, up to pairs that are parted.
 
+For each pair near tells the pairs that may stand beside it in a chain.
+"""
+
+from whichhouse.links import are_parted
 from whichhouse.walks import words_beside
 
 
 def shortest_chain(doors):
-    """A shortest chain between pairs with the same beginning and unlike ends, None if there is none."""
-    near = pairs_near(doors)
+    """A shortest chain that bars a code, one word leading each pair and the next one, None if there is none."""
+    return shortest_parted(pairs_near(doors), "code")
+
+
+def shortest_parted(near, want):
+    """A shortest chain between two pairs that are parted, None if there is none."""
     best = None
     for pair in near:
-        chain = chain_from(near, pair)
+        chain = chain_from(near, pair, [other for other in near if are_parted(want, pair, other)])
         if chain is not None and (best is None or len(chain) < len(best)):
             best = chain
     return best
@@ -27,8 +35,8 @@ def pairs_near(doors):
     return near
 
 
-def chain_from(near, start):
-    """A shortest chain from a pair to one with the same beginning, None if there is none."""
+def chain_from(near, start, ends):
+    """A shortest chain from a pair to one of these ends, which are others, None if there is none."""
     before = {start: start}
     queue = [start]
     at = 0
@@ -38,7 +46,7 @@ def chain_from(near, start):
         for other in near[pair]:
             if other not in before:
                 before[other] = pair
-                if other[0] == start[0]:
+                if other in ends:
                     return chain_to(before, other)
                 queue.append(other)
     return None

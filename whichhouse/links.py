@@ -5,6 +5,29 @@ each house x, with the number of the class of (x, y) for each house y.
 """
 
 
+def wanted_table(doors, want):
+    """The table of the classes by which a web has what is wanted, None if it does not have it."""
+    if want == "code":
+        return linked_table(doors)
+    if want == "hand":
+        return bound_table(doors)
+    if want == "back":
+        return linked_back(doors)
+    return bound_behind(doors)
+
+
+def goes_back(want):
+    """Whether pairs with the same end are parted, and not those with the same beginning."""
+    return want in ("back", "behind")
+
+
+def are_parted(want, pair, other):
+    """Whether no class may have both pairs: the same beginning and unlike ends, or backwards the other way."""
+    if goes_back(want):
+        return pair[1] == other[1] and pair[0] != other[0]
+    return pair[0] == other[0] and pair[1] != other[1]
+
+
 def linked_table(doors):
     """The table of the classes, None if one has two pairs with the same beginning."""
     count = len(doors)
