@@ -10,7 +10,10 @@ from tests.cases import Case
 from tests.counting import EACH_WAY, FOUR, PATH, TURNING, WANTS, all_tied, behind_classes, large_webs, linked_classes
 from tests.counting import ring, small_webs, steps_of, table_from, turned_round, wanted, wide_classes
 from tests.values import NUMBERS, ODD, Stranger, nested
+from whichhouse.backwards import back_codes, behind_codes
 from whichhouse.checker import accepts
+from whichhouse.codes import codes, few_codes, has_code, quarrel
+from whichhouse.handing import hand_codes
 from whichhouse.webs import Web
 
 CLASSES = {"code": linked_classes, "hand": wide_classes, "back": linked_classes, "behind": behind_classes}
@@ -239,6 +242,12 @@ class HasTest(Case):
                 self.assertIs(accepts(("has", web.plain, want), table), right, (web.plain, want, table))
         self.assertGreater(min(seen.values()), 100)
 
+    def test_the_tables_that_this_package_tells(self):
+        for web in small_webs() + large_webs():
+            for tell, want in ((codes, "code"), (few_codes, "code"), (hand_codes, "hand"), (back_codes, "back"),
+                               (behind_codes, "behind")):
+                self.assertIs(accepts(("has", web.text, want), tell(web)), tell(web) is not None)
+
     def test_one_number_otherwise(self):
         seen = {True: 0, False: 0}
         for web, want in itertools.product(small_webs()[::6], WANTS):
@@ -358,6 +367,18 @@ class LacksTest(Case):
             self.assertTrue(any(line[2][0] in ("ahead", "after") for line in paper))
             for want in WANTS:
                 self.assertIs(accepts(claim[:2] + (want,), paper), want == claim[2])
+
+    def test_the_quarrels_that_this_package_tells(self):
+        many = 0
+        for web in small_webs() + large_webs():
+            rows = quarrel(web) or ()
+            lines = [(pair, other, ("word", word)) for pair, other, word in rows]
+            for at in range(1, len(rows)):
+                before = at - 1 if at == 1 else len(lines) - 1
+                lines.append((rows[0][0], rows[at][1], ("chain", before, at)))
+            many += bool(lines)
+            self.assertIs(accepts(("lacks", web.text, "code"), tuple(lines)), not has_code(web))
+        self.assertGreater(many, 50)
 
     def test_one_line(self):
         claim = ("lacks", PATH.plain, "back")
