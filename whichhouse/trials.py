@@ -22,19 +22,12 @@ class Trial:
     def __init__(self, holder):
         self.holder = holder
         self.kept = None
-        self.step = None
 
     def __enter__(self):
         self.kept = Step(self.holder.step, self.kept)
         return self.holder
 
     def __exit__(self, kind, value, trace):
-        kept = self.kept
-        self.step = kept.held
-        self.kept = kept.before
-        self.give_back()
-
-    def give_back(self):
-        """Gives the holder the step with which the rows began."""
         holder = self.holder
-        holder.step = self.step
+        holder.step = self.kept.held
+        self.kept = self.kept.before
